@@ -1,0 +1,1 @@
+"""Graphs beside one another, and how they are mapped into one another."""

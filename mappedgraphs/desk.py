@@ -1,0 +1,39 @@
+"""The one function to call: a list of calls in, the list of their answers out."""
+
+from mappedgraphs.asking import ASKED
+from mappedgraphs.changes import CHANGES
+from mappedgraphs.reading import Reader
+from mappedgraphs.refusals import MISSING, NOT_BEGUN
+from mappedgraphs.shelf import Shelf
+
+BEGIN = 0
+
+
+def answers(calls):
+    """Answers the calls in order on a new object: for each call how many numbers, then these."""
+    shelf = Shelf()
+    reader = Reader(calls)
+    told = []
+    while not reader.is_done():
+        numbers = answer_call(shelf, reader.take_call())
+        told.append(len(numbers))
+        told.extend(numbers)
+    return told
+
+
+def answer_call(shelf, call):
+    """The two refusals that all calls share go ahead of what each call refuses itself."""
+    if call.number != BEGIN and not shelf.begun:
+        return [NOT_BEGUN]
+    if any([which >= len(shelf.graphs) for which in call.which]):
+        return [MISSING]
+    return answer_standing(shelf, call)
+
+
+def answer_standing(shelf, call):
+    number = call.number
+    if number in CHANGES:
+        return CHANGES[number](shelf, call)
+    if number in ASKED:
+        return ASKED[number](shelf, call)
+    raise NotImplementedError(f"call {number} isn't built yet")
