@@ -23,7 +23,6 @@ def count_maps(shelf, call):
 
 
 def map_behind(shelf, call, before):
-    """The map before which there are so many others."""
     found = maps_asked(shelf, call)
     if before >= len(found):
         return [NO_MAP]

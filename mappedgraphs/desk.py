@@ -1,4 +1,7 @@
-"""The one function to call: a list of calls in, the list of their answers out."""
+"""The one function to call: a list of calls in, the list of their answers out.
+
+For each call, in order, the list tells how many numbers are answered, then these.
+"""
 
 from mappedgraphs.asking import ASKED
 from mappedgraphs.changes import CHANGES
@@ -10,7 +13,6 @@ BEGIN = 0
 
 
 def answers(calls):
-    """Answers the calls in order on a new object: for each call how many numbers, then these."""
     shelf = Shelf()
     reader = Reader(calls)
     told = []
@@ -21,8 +23,8 @@ def answers(calls):
     return told
 
 
+# The two refusals that all calls share go ahead of what each call refuses itself.
 def answer_call(shelf, call):
-    """The two refusals that all calls share go ahead of what each call refuses itself."""
     if call.number != BEGIN and not shelf.begun:
         return [NOT_BEGUN]
     if any([which >= len(shelf.graphs) for which in call.which]):

@@ -23,7 +23,7 @@ def is_rising(pairs):
 
 
 def tells_graph(places, numbers):
-    """Whether so many places and that list of arrows are a graph as it is to be told."""
+    # How many places is asked first: a table of 2^32 places must never be made.
     if places < 1 or places > MOST_PLACES:
         return False
     if len(numbers) % 2 == 1 or any([number >= places for number in numbers]):
@@ -36,7 +36,6 @@ def graph_of(places, arrows):
 
 
 def arrows_of(graph):
-    """The arrows, rising."""
     arrows = []
     for u in range(len(graph)):
         arrows.extend([(u, v) for v in range(len(graph)) if graph[u][v]])
@@ -59,8 +58,8 @@ def turned_about(graph):
     return graph_where(len(graph), lambda u, v: graph[v][u])
 
 
+# The places are numbered anew in the order in which they are told.
 def part_of(graph, places):
-    """These places of it, numbered anew in their order, with all arrows between them."""
     return graph_where(len(places), lambda u, v: graph[places[u]][places[v]])
 
 

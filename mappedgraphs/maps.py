@@ -6,8 +6,8 @@ A map is a list: what each place gets.
 from mappedgraphs.graphs import arrows_of, part_of
 
 
+# All earlier places were looked at when they were the last, so only the last one's arrows are left to ask.
 def keeps_arrows_of_last(given, one, other):
-    """Whether the arrows between the last place told and all told so far become arrows."""
     last = len(given) - 1
     for place in range(len(given)):
         if one[place][last] and not other[given[place]][given[last]]:
@@ -27,11 +27,8 @@ def one_place_longer(starts, one, other):
     return longer
 
 
+# Each round keeps the maps in order: the starts are in order, and each is followed by its goals as they rise.
 def maps_between(one, other):
-    """All maps of one into other, in order.
-
-    Each round keeps the order: the starts are in order, and each is followed by its goals as they rise.
-    """
     found = [[]]
     for place in range(len(one)):
         found = one_place_longer(found, one, other)
@@ -52,18 +49,18 @@ def gives_each(other, given):
     return all([place in given for place in range(len(other))])
 
 
+# This is asked of lists that are too short as well: a place that they don't tell gets 0.
 def got_by(given, place):
     return given[place] if place < len(given) else 0
 
 
 def hits_each_arrow(one, other, given):
-    """Whether each arrow of other is hit; a place of one that the list doesn't tell gets 0."""
     hit = [(got_by(given, u), got_by(given, v)) for u, v in arrows_of(one)]
     return all([arrow in hit for arrow in arrows_of(other)])
 
 
+# Of maps that hit as few places min takes the first, and the maps are in order.
 def fold_of(graph):
-    """Of like maps min takes the first, and the maps are in order."""
     return min(maps_between(graph, graph), key=lambda given: len(set(given)))
 
 

@@ -1,15 +1,14 @@
-"""The object that the calls are made on: the graphs that stand, and what can be taken back."""
+"""The object that the calls are made on: the graphs that stand, and what can be taken back.
+
+What can be taken back is kept as the graphs stood ahead of each change, the oldest first. A list of graphs is
+never changed once it stands, so the lists themselves are kept.
+"""
 
 MOST_GRAPHS = 4
 MOST_TAKEN_BACK = 10
 
 
 class Shelf:
-    """past holds the graphs as they were ahead of each change that can be taken back, the oldest first.
-
-    A list of graphs is never changed once it stands, so past keeps the lists themselves.
-    """
-
     def __init__(self):
         self.begun = False
         self.graphs = []

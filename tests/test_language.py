@@ -69,6 +69,8 @@ class Language(unittest.TestCase):
                 self.assertIsInstance(node, STATEMENTS, where)
             if isinstance(node, ast.expr):
                 self.assertIsInstance(node, EXPRESSIONS, where)
+            if isinstance(node, (ast.FunctionDef, ast.ClassDef)):
+                self.assertIsNone(ast.get_docstring(node), where)
             if isinstance(node, ast.BinOp):
                 self.assertNotIsInstance(node.op, (ast.Div, ast.MatMult, ast.Pow), where)
             if isinstance(node, ast.Constant):
