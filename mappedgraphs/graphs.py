@@ -58,6 +58,10 @@ def turned_about(graph):
     return graph_where(len(graph), lambda u, v: graph[v][u])
 
 
+def by_neighbours(graph):
+    return graph_where(len(graph), lambda u, v: graph[u][v] or graph[v][u])
+
+
 # The places are numbered anew in the order in which they are told.
 def part_of(graph, places):
     return graph_where(len(places), lambda u, v: graph[places[u]][places[v]])
@@ -77,3 +81,12 @@ def beside_one_another(one, other):
         behind + len(other),
         arrows_of(one) + [(behind + u, behind + v) for u, v in arrows_of(other)],
     )
+
+
+def tower_of(places):
+    return graph_where(places, lambda u, v: u < v)
+
+
+# A map into this graph is a way to give so many colours.
+def each_to_all_others(places):
+    return graph_where(places, lambda u, v: u != v)

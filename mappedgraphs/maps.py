@@ -1,6 +1,6 @@
 """Maps of one graph into another, the fold and the core.
 
-A map is a list: what each place gets.
+A map is a list: what each place gets. Where a map is asked for and there's none, it is None.
 """
 
 from mappedgraphs.graphs import arrows_of, part_of
@@ -35,6 +35,25 @@ def maps_between(one, other):
     return found
 
 
+# The first is sought by itself, as all maps may be thousands; the calls go no deeper than there are places.
+def first_behind(start, one, other):
+    if len(start) == len(one):
+        return start
+    for given in one_place_longer([start], one, other):
+        found = first_behind(given, one, other)
+        if found is not None:
+            return found
+    return None
+
+
+def first_map_between(one, other):
+    return first_behind([], one, other)
+
+
+def is_below(one, other):
+    return first_map_between(one, other) is not None
+
+
 def is_map(one, other, given):
     if len(given) != len(one) or any([goal >= len(other) for goal in given]):
         return False
@@ -57,6 +76,13 @@ def got_by(given, place):
 def hits_each_arrow(one, other, given):
     hit = [(got_by(given, u), got_by(given, v)) for u, v in arrows_of(one)]
     return all([arrow in hit for arrow in arrows_of(other)])
+
+
+def first_renaming(one, other):
+    for given in maps_between(one, other):
+        if gives_none_twice(given) and gives_each(other, given) and hits_each_arrow(one, other, given):
+            return given
+    return None
 
 
 # Of maps that hit as few places min takes the first, and the maps are in order.

@@ -65,6 +65,62 @@ def is_map(i, j, given=()):
     return [14, i, j, len(given)] + list(given)
 
 
+def kinds(i, j):
+    return [15, i, j]
+
+
+def below(i, j):
+    return [16, i, j]
+
+
+def same(i, j):
+    return [17, i, j]
+
+
+def core(i):
+    return [18, i]
+
+
+def fold(i):
+    return [19, i]
+
+
+def alike(i, j):
+    return [20, i, j]
+
+
+def differ(i, j):
+    return [21, i, j]
+
+
+def walks(i, k):
+    return [22, i, k]
+
+
+def rounds(i, k):
+    return [23, i, k]
+
+
+def tower(i, k):
+    return [24, i, k]
+
+
+def colours(i):
+    return [25, i]
+
+
+def least(i):
+    return [26, i]
+
+
+def order():
+    return [27]
+
+
+def state():
+    return [28]
+
+
 def joined(calls):
     line = []
     for call in calls:

@@ -21,6 +21,11 @@ OWN_METHODS = """append clear copy count endswith extend find get index insert i
 WORDS = re.compile(r"\b(type|typing|typing_extensions|enum|Enum|IntEnum|StrEnum|Flag|IntFlag|Generic|Protocol|ABC|"
                    r"ABCMeta|namedtuple|NamedTuple|TypedDict|TYPE_CHECKING|abstractmethod)\b|"
                    r"dataclass|overload|contextmanager")
+UNUSED = """register mro elements open input version_info with_traceback add_note attrgetter breakpoint builtins compile
+    copyright credits delattr dir eval exec exit gc getattr globals hasattr help id importlib license locals methodcaller
+    os quit setattr super type vars sys chr print format format_map""".split()
+WALKED_AT_ONCE = ("zip", "enumerate", "reversed", "range", "items", "keys", "values")
+WALKERS = ("list", "tuple", "dict", "sorted", "sum", "any", "all", "enumerate", "zip", "min", "max")
 PYTHONS_OWN = set(dir(__builtins__) if not isinstance(__builtins__, dict) else __builtins__)
 
 
@@ -35,6 +40,21 @@ def bound_names(tree):
             names.append(node.id)
         if isinstance(node, ast.ImportFrom):
             names.extend(alias.name for alias in node.names)
+    return names
+
+
+def called(node):
+    """The name by which a call is made, or None where it is none."""
+    if not isinstance(node, ast.Call):
+        return None
+    return node.func.id if isinstance(node.func, ast.Name) else getattr(node.func, "attr", None)
+
+
+def names_at_top(tree):
+    names = []
+    for node in tree.body:
+        names.extend(bound_names(node) if isinstance(node, (ast.ImportFrom, ast.Assign)) else [])
+        names.extend([node.name] if isinstance(node, (ast.FunctionDef, ast.ClassDef)) else [])
     return names
 
 
@@ -107,6 +127,63 @@ class Language(unittest.TestCase):
                     self.assertIn(node.id, known, path.name)
                 if isinstance(node, ast.Call) and isinstance(node.func, ast.Attribute):
                     self.assertIn(node.func.attr, OWN_METHODS + methods, path.name)
+
+    def test_names_that_are_not_used(self):
+        for where, node in self.each_node():
+            if isinstance(node, ast.Name):
+                self.assertNotIn(node.id, UNUSED, where)
+            if isinstance(node, ast.Attribute):
+                self.assertNotIn(node.attr, UNUSED, where)
+
+    def test_each_name_once(self):
+        for path, tree in self.trees.items():
+            top = names_at_top(tree)
+            self.assertEqual(len(top), len(set(top)), path.name)
+            imports_and_classes = [alias.name for node in tree.body if isinstance(node, ast.ImportFrom)
+                                   for alias in node.names]
+            imports_and_classes += [node.name for node in tree.body if isinstance(node, ast.ClassDef)]
+            for outer in tree.body:
+                if isinstance(outer, (ast.FunctionDef, ast.ClassDef)):
+                    for node in outer.body + getattr(getattr(outer, "args", None), "args", []):
+                        self.assertFalse(set(bound_names(node)) & set(imports_and_classes), path.name)
+
+    def test_is(self):
+        for where, node in self.each_node():
+            if isinstance(node, ast.Compare) and any(isinstance(op, (ast.Is, ast.IsNot)) for op in node.ops):
+                for other in node.comparators:
+                    self.assertIsInstance(other, ast.Constant, where)
+                    self.assertIn(other.value, (None, True, False), where)
+
+    def test_walked_at_once(self):
+        for path, tree in self.trees.items():
+            walked = []
+            for node in ast.walk(tree):
+                if isinstance(node, (ast.For, ast.comprehension)):
+                    walked.append(node.iter)
+                if called(node) in WALKERS:
+                    walked.extend(node.args[:1])
+            for node in ast.walk(tree):
+                if called(node) in WALKED_AT_ONCE:
+                    self.assertIn(node, walked, f"{path.name}:{node.lineno}")
+
+    def test_sets(self):
+        for path, tree in self.trees.items():
+            asked = []
+            for node in ast.walk(tree):
+                if called(node) in ("len", "sorted"):
+                    asked.extend(node.args)
+                if isinstance(node, ast.Compare):
+                    asked.extend([node.left] + node.comparators)
+            for node in ast.walk(tree):
+                if called(node) in ("set", "frozenset"):
+                    self.assertIn(node, asked, f"{path.name}:{node.lineno}")
+
+    def test_keywords_and_texts(self):
+        for where, node in self.each_node():
+            if isinstance(node, ast.Call) and node.keywords:
+                self.assertIn(called(node), ("sorted", "min", "max", "sum", "enumerate", "zip"), where)
+            if isinstance(node, ast.Constant) and isinstance(node.value, str):
+                self.assertNotIn("%", node.value, where)
 
     def test_imports(self):
         drawn = {path.stem: [node.module for node in tree.body if isinstance(node, ast.ImportFrom)]
